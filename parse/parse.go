@@ -2,9 +2,8 @@
 package parse
 
 import (
-	"errors"
-
 	"gatewright/api"
+	"gatewright/fault"
 )
 
 // Text reads the modules of a text.
@@ -14,7 +13,7 @@ func Text(text string) (ms []api.Module, err error) {
 	}
 	defer func() {
 		if thrown := recover(); thrown != nil {
-			ms, err = nil, faultOf(thrown)
+			ms, err = nil, fault.Of(thrown, api.FText)
 		}
 	}()
 	r := newReader(text)
@@ -36,15 +35,4 @@ func Print(ms []api.Module) (text string) {
 		p.module(m)
 	}
 	return p.String()
-}
-
-// faultOf tells the fault that the reader has thrown.
-func faultOf(thrown any) error {
-	if err, ok := thrown.(error); ok {
-		var fault *api.Fault
-		if errors.As(err, &fault) {
-			return fault
-		}
-	}
-	return &api.Fault{Code: api.FText}
 }

@@ -4,6 +4,7 @@ import (
 	"strings"
 
 	"gatewright/api"
+	"gatewright/fault"
 )
 
 // maxCopies bounds the expressions that are copied for the names of one text: a long range ahead of many names would fill any memory.
@@ -28,7 +29,7 @@ func (r *reader) step() {
 
 // fail throws that the token at hand cannot stand where it stands.
 func (r *reader) fail() {
-	panic(&api.Fault{Code: api.FText, At: r.now.at})
+	fault.Throw(api.FText, r.now.at)
 }
 
 // is asks for a word or a sign.
