@@ -27,6 +27,9 @@ type runner struct {
 	next    []int
 	woken   []bool // of each process, whether it is among the next ones
 	kept    []change
+	last    bool // the delta is the last one that may be
+	moved   bool // a process of it has given something another value
+	before  []uint64
 }
 
 // start makes a design ready: all that is not at the clock is to run.
@@ -53,16 +56,34 @@ func start(d api.Design, order []int) *runner {
 
 // settle runs delta by delta, until no process is to run.
 func (r *runner) settle() {
-	for deltas := 0; len(r.next) > 0; deltas++ {
-		if deltas > len(r.acts) {
-			fault.Throw(api.FLoop, r.now)
-		}
-		r.due, r.next = r.next, r.due[:0]
-		slices.Sort(r.due)
-		for _, p := range r.due {
-			r.woken[p] = false
-		}
+	for deltas := 0; deltas < len(r.acts) && len(r.next) > 0; deltas++ {
+		r.begin()
 		r.delta()
+	}
+	if len(r.next) > 0 {
+		r.lastDelta()
+	}
+}
+
+// lastDelta runs the last delta that may be. Processes that set a bit there and back may wake each other for ever though nothing gets another value; chapter 4 promises that this is no loop.
+func (r *runner) lastDelta() {
+	r.last, r.moved = true, false
+	r.begin()
+	r.delta()
+	r.last = false
+	if len(r.next) > 0 && r.moved {
+		fault.Throw(api.FLoop, r.now)
+	}
+	r.begin()
+	r.due = r.due[:0]
+}
+
+// begin makes those that were woken due.
+func (r *runner) begin() {
+	r.due, r.next = r.next, r.due[:0]
+	slices.Sort(r.due)
+	for _, p := range r.due {
+		r.woken[p] = false
 	}
 }
 
@@ -76,10 +97,21 @@ func (r *runner) delta() {
 		r.running = r.due[k]
 		r.due = slices.Delete(r.due, k, k+1)
 		r.waits[r.running] = false
-		runAll(r.acts[r.running], r)
+		r.process()
 	}
 	r.running = nobody
 	r.putFrom(0)
+}
+
+// process runs the one whose turn it is.
+func (r *runner) process() {
+	if !r.last {
+		runAll(r.acts[r.running], r)
+		return
+	}
+	r.before = append(r.before[:0], r.nets...)
+	runAll(r.acts[r.running], r)
+	r.moved = r.moved || len(r.kept) > 0 || !slices.Equal(r.before, r.nets)
 }
 
 // choose tells which one of n runs next.

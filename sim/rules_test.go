@@ -3,6 +3,7 @@ package sim
 import (
 	"math"
 	"reflect"
+	"strings"
 	"testing"
 
 	"gatewright/api"
@@ -301,6 +302,16 @@ func TestRingAtTheClock(t *testing.T) {
 	// Two that wake each other for ever, each by another net, though each sets but what the other one reads.
 	text = "module m (output reg a, output reg b); always @* a = !b; always @* b = a; endmodule"
 	loops(t, text, cycles(2), []int{1}, 0)
+}
+
+// TestThereAndBack: two processes wake each other for ever, each by another bit of a net than the other one reads, and nothing gets another value.
+func TestThereAndBack(t *testing.T) {
+	text := "module m (input a, output [1:0] q); reg x; reg [1:0] y; assign q = y; always @* begin x = 0; x = y[0]; end always @* begin y[1] = 0; y[1] = x; end always @* y[0] = a; @@ endmodule"
+	rows(t, strings.Replace(text, "@@", "", 1), column(0, 1, 1, 0, 1), nil, column(0, 3, 3, 0, 3))
+	rows(t, strings.Replace(text, "@@", "", 1), column(0, 1, 1, 0, 1), []int{2, 1}, column(0, 3, 3, 0, 3))
+	// But a ring in which something gets another value each time is one.
+	loops(t, strings.Replace(text, "@@", "reg v; reg w; always @* v = a & !w; always @* w = v;", 1), column(0, 1), nil, 1)
+	loops(t, "module m (input a); reg v; reg w; always @* begin v = 0; v = a & !w; end always @* begin w = 0; w = v; end endmodule", column(0, 1), nil, 1)
 }
 
 // TestKept: what is handed over stays as it was, and two answers share nothing.

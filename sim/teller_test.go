@@ -15,7 +15,8 @@ type teller struct {
 	next    map[int]bool
 	runs    int // the process that runs, or -1
 	kept    []func()
-	ran     int // how many processes have run, for the tests to tell
+	ran     int  // how many processes have run, for the tests to tell
+	moved   bool // a process has given something another value since that was last asked
 }
 
 func bitsOf(value uint64, width int) []bool {
@@ -89,9 +90,11 @@ func (r *teller) tell(trace [][]uint64) ([][]uint64, int) {
 func (r *teller) settle() bool {
 	for deltas := 1; len(r.next) > 0; deltas++ {
 		if deltas > len(r.d.Procs)+1 {
-			return false
+			r.next = map[int]bool{}
+			return !r.moved
 		}
 		r.now, r.next = r.next, map[int]bool{}
+		r.moved = false
 		r.delta()
 	}
 	return true
@@ -118,7 +121,14 @@ func (r *teller) delta() {
 		}
 		delete(r.now, r.runs)
 		r.ran++
+		var before []uint64
+		for _, n := range r.nets {
+			before = append(before, valueOf(n))
+		}
 		r.acts(r.d.Procs[r.runs].Acts)
+		for i, n := range r.nets {
+			r.moved = r.moved || valueOf(n) != before[i]
+		}
 	}
 	r.runs = -1
 	for _, set := range r.kept {
