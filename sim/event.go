@@ -5,6 +5,7 @@ import (
 
 	"gatewright/api"
 	"gatewright/fault"
+	"gatewright/habit"
 )
 
 // nobody is who runs between the processes.
@@ -27,14 +28,14 @@ type runner struct {
 	next    []int
 	woken   []bool // of each process, whether it is among the next ones
 	kept    []change
-	last    bool // the delta is the last one that may be
-	moved   bool // a process of it has given something another value
-	before  []uint64
+	design  *api.Design
+	asked   bool // it is known whether
+	rests   bool // chapter 4 promises that the design always comes to rest
 }
 
 // start makes a design ready: all that is not at the clock is to run.
-func start(d api.Design, order []int) *runner {
-	r := &runner{store: storeOf(d.Nets), outputs: d.Outputs, order: order, running: nobody}
+func start(d *api.Design, order []int) *runner {
+	r := &runner{store: storeOf(d.Nets), outputs: d.Outputs, order: order, running: nobody, design: d}
 	r.waits = make([]bool, len(d.Procs))
 	r.woken = make([]bool, len(d.Procs))
 	for _, n := range d.Inputs {
@@ -56,25 +57,24 @@ func start(d api.Design, order []int) *runner {
 
 // settle runs delta by delta, until no process is to run.
 func (r *runner) settle() {
-	for deltas := 0; deltas < len(r.acts) && len(r.next) > 0; deltas++ {
+	for deltas := 0; len(r.next) > 0; deltas++ {
 		r.begin()
-		r.delta()
-	}
-	if len(r.next) > 0 {
-		r.lastDelta()
+		if deltas <= len(r.acts) {
+			r.delta()
+		} else {
+			r.leaveOff()
+		}
 	}
 }
 
-// lastDelta runs the last delta that may be. Processes that set a bit there and back may wake each other for ever though nothing gets another value; chapter 4 promises that this is no loop.
-func (r *runner) lastDelta() {
-	r.last, r.moved = true, false
-	r.begin()
-	r.delta()
-	r.last = false
-	if len(r.next) > 0 && r.moved {
+// leaveOff is what becomes of those that are due when there have been too many deltas. Chapter 4 promises that a design in which it finds no fault comes to rest: there they were woken by what is set there and back, and would give nothing another value.
+func (r *runner) leaveOff() {
+	if !r.asked {
+		r.asked, r.rests = true, habit.Fault(r.design) == nil
+	}
+	if !r.rests {
 		fault.Throw(api.FLoop, r.now)
 	}
-	r.begin()
 	r.due = r.due[:0]
 }
 
@@ -97,21 +97,10 @@ func (r *runner) delta() {
 		r.running = r.due[k]
 		r.due = slices.Delete(r.due, k, k+1)
 		r.waits[r.running] = false
-		r.process()
+		runAll(r.acts[r.running], r)
 	}
 	r.running = nobody
 	r.putFrom(0)
-}
-
-// process runs the one whose turn it is.
-func (r *runner) process() {
-	if !r.last {
-		runAll(r.acts[r.running], r)
-		return
-	}
-	r.before = append(r.before[:0], r.nets...)
-	runAll(r.acts[r.running], r)
-	r.moved = r.moved || len(r.kept) > 0 || !slices.Equal(r.before, r.nets)
 }
 
 // choose tells which one of n runs next.

@@ -160,6 +160,59 @@ func TestRandom(t *testing.T) {
 	}
 }
 
+// restless makes a text whose processes set a bit there and back, and read some bits of each other's nets.
+func (m maker) restless() string {
+	bits := []string{"x[0]", "x[1]", "x[2]", "y[0]", "y[1]", "y[2]", "z[0]", "z[1]"}
+	m.Shuffle(len(bits), func(i, k int) { bits[i], bits[k] = bits[k], bits[i] })
+	text := "module m (input [1:0] a, output [2:0] q, output [2:0] p, output reg l); reg [2:0] x; reg [2:0] y; reg [1:0] z; assign q = x; assign p = y ^ z;\n"
+	for i, bit := range bits[:2+m.Intn(6)] {
+		from := append([]string{"a[0]", "a[1]", "1"}, bits[i+1:]...)
+		value := from[m.Intn(len(from))] + m.pick("& | ^") + from[m.Intn(len(from))]
+		if m.Intn(20) == 0 {
+			value += m.pick("& | ^") + m.pick("x[0] y[1] z")
+		}
+		text += "always @* begin " + bit + " = " + m.pick("0 1 a") + "; " + bit + " = " + value + "; end\n"
+	}
+	switch m.Intn(4) {
+	case 0:
+		text += "always @* if (a) l = 1;\n"
+	case 1:
+		text += "always @clk l = a;\n"
+	case 2:
+		text += "always @clk l <= x;\n"
+	}
+	return text + "endmodule"
+}
+
+// TestRestless: where such a text has a fault it never comes to rest, else it always does.
+func TestRestless(t *testing.T) {
+	m := maker{rand.New(rand.NewSource(6))}
+	looped, rested := 0, 0
+	for range 6000 {
+		text := m.restless()
+		d := designOf(t, text)
+		trace, order := m.trace(), m.order()
+		r := tellerOf(d, order)
+		want, cycle := r.tell(trace)
+		got, err := Run(d, trace, order)
+		code, at := api.Code(err)
+		switch {
+		case cycle >= 0:
+			looped++
+			if code != api.FLoop || at != cycle || got != nil {
+				t.Fatalf("%v, fault %d at %d, want FLoop at %d: order %v, trace %v\n%s", got, code, at, cycle, order, trace, text)
+			}
+		case code != 0 || len(got) != len(want) || len(got) > 0 && !reflect.DeepEqual(got, want):
+			t.Fatalf("%v, fault %d at %d, want %v: order %v, trace %v\n%s", got, code, at, want, order, trace, text)
+		case r.left > 0:
+			rested++
+		}
+	}
+	if looped < 400 || rested < 400 {
+		t.Errorf("the texts show too little: %d loops, %d that were left off", looped, rested)
+	}
+}
+
 // operation makes an expression of a kind, and of its operands nets.
 func (m maker) operation(kind int, d *api.Design) api.Exp {
 	net := func(width int) api.Exp {

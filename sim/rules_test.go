@@ -304,14 +304,35 @@ func TestRingAtTheClock(t *testing.T) {
 	loops(t, text, cycles(2), []int{1}, 0)
 }
 
-// TestThereAndBack: two processes wake each other for ever, each by another bit of a net than the other one reads, and nothing gets another value.
+// TestThereAndBack: two processes wake each other for ever, each by another bit of a net than the other one reads, and nothing gets another value. Where chapter 4 finds no fault, that is no loop.
 func TestThereAndBack(t *testing.T) {
 	text := "module m (input a, output [1:0] q); reg x; reg [1:0] y; assign q = y; always @* begin x = 0; x = y[0]; end always @* begin y[1] = 0; y[1] = x; end always @* y[0] = a; @@ endmodule"
-	rows(t, strings.Replace(text, "@@", "", 1), column(0, 1, 1, 0, 1), nil, column(0, 3, 3, 0, 3))
-	rows(t, strings.Replace(text, "@@", "", 1), column(0, 1, 1, 0, 1), []int{2, 1}, column(0, 3, 3, 0, 3))
+	orders := [][]int{nil, {2, 1}, {1}, {-1, 3}}
+	for _, order := range orders {
+		rows(t, strings.Replace(text, "@@", "", 1), column(0, 1, 1, 0, 1), order, column(0, 3, 3, 0, 3))
+		// Behind the clock too.
+		rows(t, strings.NewReplacer("@@", "always @clk r <= a;", "reg x;", "reg x; reg r;", "y[0] = a", "y[0] = r").Replace(text), column(0, 1, 1, 0, 1), order, column(0, 0, 3, 3, 0))
+	}
 	// But a ring in which something gets another value each time is one.
 	loops(t, strings.Replace(text, "@@", "reg v; reg w; always @* v = a & !w; always @* w = v;", 1), column(0, 1), nil, 1)
 	loops(t, "module m (input a); reg v; reg w; always @* begin v = 0; v = a & !w; end always @* begin w = 0; w = v; end endmodule", column(0, 1), nil, 1)
+	// And so is the first text with a fault beside it, whichever that is.
+	for _, fault := range []string{"reg z; always @* if (a) z = 1;", "wire z; assign z = a; assign z = 1;", "reg z; wire u; assign u = z; always @clk z = a;", "wire z; wire u; assign z = u; assign u = z;", "reg z; always @clk begin z = a; z <= 0; end"} {
+		for _, order := range orders {
+			loops(t, strings.Replace(text, "@@", fault, 1), column(0, 1, 1, 0, 1), order, 1)
+		}
+	}
+}
+
+// TestWokenForEver: what is set there and back is so at each delta, from the first one on.
+func TestWokenForEver(t *testing.T) {
+	two := "reg [1:0] x; reg [1:0] y; always @* begin x[0] = 0; x[0] = ~y[1]; end always @* begin y[0] = 0; y[0] = ~x[1]; end "
+	for _, order := range [][]int{nil, {1}, {2, 1, 0}} {
+		rows(t, "module m (input a, output q, output z);"+two+"assign q = a; assign z = x[0] & y[0]; endmodule", column(1, 0), order, [][]uint64{{1, 1}, {0, 1}})
+		loops(t, "module m (input a, output q, output reg z);"+two+"assign q = a; always @* if (a) z = 1; endmodule", column(1, 0), order, 0)
+		loops(t, "module m (input a, output q, output reg z);"+two+"assign q = x[0]; always @clk z = a; endmodule", column(1, 0), order, 0)
+		loops(t, "module m (input a, output q, output z);"+two+"assign q = a; assign z = y[0]; assign z = a; endmodule", column(1, 0), order, 0)
+	}
 }
 
 // TestKept: what is handed over stays as it was, and two answers share nothing.

@@ -2,6 +2,7 @@ package sim
 
 import (
 	"gatewright/api"
+	"gatewright/race"
 )
 
 // teller runs a design bit by bit, as the chapter says it, however long that takes.
@@ -15,8 +16,8 @@ type teller struct {
 	next    map[int]bool
 	runs    int // the process that runs, or -1
 	kept    []func()
-	ran     int  // how many processes have run, for the tests to tell
-	moved   bool // a process has given something another value since that was last asked
+	ran     int // how many processes have run, for the tests to tell
+	left    int // how often a design that always comes to rest was left off
 }
 
 func bitsOf(value uint64, width int) []bool {
@@ -91,10 +92,10 @@ func (r *teller) settle() bool {
 	for deltas := 1; len(r.next) > 0; deltas++ {
 		if deltas > len(r.d.Procs)+1 {
 			r.next = map[int]bool{}
-			return !r.moved
+			r.left++
+			return race.Check(r.d) == nil // chapter 4: then it never is FLoop
 		}
 		r.now, r.next = r.next, map[int]bool{}
-		r.moved = false
 		r.delta()
 	}
 	return true
@@ -121,14 +122,7 @@ func (r *teller) delta() {
 		}
 		delete(r.now, r.runs)
 		r.ran++
-		var before []uint64
-		for _, n := range r.nets {
-			before = append(before, valueOf(n))
-		}
 		r.acts(r.d.Procs[r.runs].Acts)
-		for i, n := range r.nets {
-			r.moved = r.moved || valueOf(n) != before[i]
-		}
 	}
 	r.runs = -1
 	for _, set := range r.kept {

@@ -1,4 +1,4 @@
-package race
+package habit
 
 import "gatewright/api"
 
