@@ -6,137 +6,167 @@ import (
 	"gatewright/api"
 )
 
-// change is what a branch has done to a net.
-type change struct {
-	was, is []part
-	bare    uint64 // bits that were set, and are right only if the branch runs
-	guarded uint64 // bits that were set, and are what they were, if it does not run
+// branch is where in the ifs of a process the acts stand that are gone through. What is set there waits, with the path that leads there as its condition, until it is read somewhere else: so ifs within ifs cost no more than ifs behind each other.
+type branch struct {
+	path    int              // a node: whether the acts run
+	scopes  []scope          // the branches that lead there
+	open    map[int]int      // how often each path is among theirs
+	closed  []span           // when what was done cannot have been done, since the other branch is taken
+	time    int              // how many steps have come to wait
+	waiting map[int][][]step // of each net, of each bit, what waits to be set
+	twins   map[int]twin     // of the path of each else, what belongs to it
 }
 
-func (c *change) bits() uint64 {
-	return c.bare | c.guarded
+// scope is a branch that is gone through.
+type scope struct {
+	begun int
+	seen  []int // nets that were read as they are in that branch alone
 }
 
-// outcome is what a branch has done; path is the node that tells whether it runs.
-type outcome struct {
-	path    int
-	changes map[int]*change
+type span struct {
+	from, to int
 }
 
-// put sets bits of a net.
-func (r *routine) put(id, lo int, bits []part, isBare bool) {
-	some := mask(widthOf(bits)) << lo
-	r.replace(id, with(r.valueOf(id), lo, bits), some, isBare)
+// step is that a bit becomes another one, if a path is taken.
+type step struct {
+	path, time int
+	bit        part
 }
 
-// replace gives a net a value, of which some bits are other ones than before.
-func (r *routine) replace(id int, value []part, some uint64, isBare bool) {
-	c := r.changes[id]
-	if c == nil {
-		c = &change{was: r.values[id]}
-		r.changes[id] = c
-	}
-	if isBare {
-		c.bare |= some
-		c.guarded &^= some
-	} else {
-		c.guarded |= some &^ c.bare
-	}
-	r.values[id] = value
-	r.forget(id)
+// twin is an if, of which one has its else: the path of its then, the path that leads to it, its condition.
+type twin struct {
+	then, outer, asked int
 }
 
-// branches goes through both branches of an act, each from the same beginning.
+func newBranch(always int) branch {
+	return branch{path: always, open: make(map[int]int), waiting: make(map[int][][]step), twins: make(map[int]twin)}
+}
+
+// branches goes through both branches of an act, or through the one that is taken for sure.
 func (r *routine) branches(a *api.Act) {
 	asked := r.exp(&a.If)
-	switch {
-	case r.is(asked, 1):
+	if r.is(asked, 1) {
 		r.acts(a.Then)
-	case r.is(asked, 0):
+		return
+	}
+	if r.is(asked, 0) {
 		r.acts(a.Else)
-	default:
-		then := r.branch(a.Then, asked)
-		other := r.branch(a.Else, r.operation(api.XNot, 1, asked))
-		r.merge(asked, then, other)
+		return
 	}
+	then := r.operation(api.XAnd, 1, r.path, asked)
+	other := r.operation(api.XAnd, 1, r.path, r.operation(api.XNot, 1, asked))
+	r.twins[other] = twin{then, r.path, asked}
+	from := r.time
+	r.along(a.Then, then)
+	r.closed = append(r.closed, span{from, r.time})
+	r.along(a.Else, other)
+	r.closed = r.closed[:len(r.closed)-1]
 }
 
-// branch goes through acts that run only if a condition holds, and puts everything back.
-func (r *routine) branch(acts []api.Act, asked int) outcome {
-	if len(acts) == 0 {
-		return outcome{}
-	}
-	path, changes := r.path, r.changes
-	r.path, r.changes = r.operation(api.XAnd, 1, path, asked), make(map[int]*change)
+// along goes through acts that run only if a path is taken.
+func (r *routine) along(acts []api.Act, path int) {
+	outer := r.path
+	r.path = path
+	r.open[path]++
+	r.scopes = append(r.scopes, scope{begun: r.time})
 	r.acts(acts)
-	done := outcome{r.path, r.changes}
-	r.path, r.changes = path, changes
-	for id, c := range done.changes {
-		c.is = r.values[id]
-		if c.was == nil {
-			delete(r.values, id)
-		} else {
-			r.values[id] = c.was
-		}
-		r.forget(id)
+	last := len(r.scopes) - 1
+	for _, net := range r.scopes[last].seen {
+		r.forget(net)
 	}
-	return done
+	r.scopes = r.scopes[:last]
+	r.open[path]--
+	r.path = outer
 }
 
-// merge makes of what both branches have done what is done by the act. Bits that one branch alone has changed are chosen by its path, once: whatever acts stand around it, that choice need not be made again. So ifs within ifs cost no more than ifs behind each other. Bits that are unset, if the branch does not run, stay so: nobody reads them ahead of their being set on each way.
-func (r *routine) merge(asked int, then, other outcome) {
-	var both, bothGuarded, thenAlone, otherAlone []choice
-	for _, id := range r.unsettled(then, other) {
-		t, o := then.changes[id], other.changes[id]
-		if t == nil {
-			t = &change{}
+// put sets bits of a net, if the path is taken.
+func (r *routine) put(id, lo int, bits []part) {
+	r.forget(id)
+	width := widthOf(bits)
+	if !r.is(r.path, 1) {
+		for i := range width {
+			r.wait(id, lo+i, cut(bits, i, 1)[0])
 		}
-		if o == nil {
-			o = &change{}
-		}
-		old := r.held(id)
-		unset := missing(old)
-		common := t.bits() & o.bits()
-		guarded := common & t.guarded & o.guarded
-		both = append(both, choices(id, common&^guarded, t.is, o.is)...)
-		bothGuarded = append(bothGuarded, choices(id, guarded, t.is, o.is)...)
-		thenAlone = append(thenAlone, choices(id, t.bare&^common&^unset, t.is, old)...)
-		otherAlone = append(otherAlone, choices(id, o.bare&^common&^unset, o.is, old)...)
-		r.take(id, t.guarded&^common, t.is)
-		r.take(id, o.guarded&^common, o.is)
+		return
 	}
-	r.choose(asked, both, true)
-	r.choose(asked, bothGuarded, false)
-	r.choose(then.path, thenAlone, false)
-	r.choose(other.path, otherAlone, false)
+	r.values[id] = with(r.valueOf(id), lo, bits)
+	if steps := r.waiting[id]; steps != nil {
+		clear(steps[lo : lo+width])
+		r.tidy(id)
+	}
 }
 
-// unsettled takes over what needs no choice, and tells the nets that are left, in order.
-func (r *routine) unsettled(then, other outcome) []int {
-	var ids []int
-	for id, c := range then.changes {
-		if other.changes[id] == nil && c.bare == 0 {
-			r.replace(id, c.is, c.guarded, false)
-		} else {
-			ids = append(ids, id)
-		}
+// tidy strikes off a net for which nothing waits.
+func (r *routine) tidy(id int) {
+	if !slices.ContainsFunc(r.waiting[id], func(steps []step) bool { return len(steps) > 0 }) {
+		delete(r.waiting, id)
 	}
-	for id, c := range other.changes {
-		switch {
-		case then.changes[id] != nil:
-		case c.bare == 0:
-			r.replace(id, c.is, c.guarded, false)
-		default:
-			ids = append(ids, id)
-		}
-	}
-	slices.Sort(ids)
-	return ids
 }
 
-// take takes over bits that a branch has changed.
-func (r *routine) take(id int, bits uint64, from []part) {
-	for lo, width := range runs(bits) {
-		r.put(id, lo, cut(from, lo, width), false)
+// wait keeps a step of a bit. Steps that came in the same branch, or in one within it, would be undone by it.
+func (r *routine) wait(id, bit int, becomes part) {
+	if r.waiting[id] == nil {
+		r.waiting[id] = make([][]step, r.widthOfNet(id))
 	}
+	steps := r.waiting[id][bit]
+	begun := r.scopes[len(r.scopes)-1].begun
+	for len(steps) > 0 && steps[len(steps)-1].time >= begun {
+		steps = steps[:len(steps)-1]
+	}
+	r.waiting[id][bit] = append(steps, step{r.path, r.time, becomes})
+	r.time++
+}
+
+// now tells what bits of a net are worth at the place that is gone through.
+func (r *routine) now(id, lo, width int) []part {
+	if r.waiting[id] == nil {
+		return cut(r.valueOf(id), lo, width)
+	}
+	r.settle(r.unclear(id, lo, width))
+	all := cut(r.valueOf(id), lo, width)
+	if r.waiting[id] == nil {
+		return all
+	}
+	for i := range width {
+		steps := r.waiting[id][lo+i]
+		if last := r.lastOf(steps); last >= 0 {
+			all = with(all, i, []part{steps[last].bit})
+		}
+	}
+	if top := len(r.scopes) - 1; top >= 0 {
+		r.scopes[top].seen = append(r.scopes[top].seen, id)
+	}
+	return all
+}
+
+// lastOf tells the last one of some steps that can have been made where the acts stand, or -1.
+func (r *routine) lastOf(steps []step) int {
+	last := len(steps) - 1
+	for last >= 0 && r.isClosed(steps[last].time) {
+		last--
+	}
+	return last
+}
+
+// isClosed asks whether a time is within a closed span: these come one behind the other.
+func (r *routine) isClosed(time int) bool {
+	at, _ := slices.BinarySearchFunc(r.closed, time, func(s span, time int) int {
+		if s.to <= time {
+			return -1
+		}
+		return 1
+	})
+	return at < len(r.closed) && r.closed[at].from <= time
+}
+
+// unclear tells of which bits it hangs on a condition what they are worth, and the steps that must be made to tell it. A step whose path leads to the place that is gone through has been made for sure.
+func (r *routine) unclear(id, lo, width int) []slot {
+	var row []slot
+	for bit := lo; bit < lo+width; bit++ {
+		steps := r.waiting[id][bit]
+		if last := r.lastOf(steps); last >= 0 && r.open[steps[last].path] == 0 {
+			row = append(row, slot{id, bit, steps[:last+1]})
+		}
+	}
+	return row
 }

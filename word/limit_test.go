@@ -130,39 +130,6 @@ func TestBraces(t *testing.T) {
 		"; always @clk begin k[v] <= v; if (c) for (i = 0; i < 32; i = i + 1) {"+list32("a", 0, "[i]")+"} <= k[i]; end endmodule "+uses(19))
 }
 
-// TestScattered: sets of many bits that stand anywhere, so many under each condition.
-func TestScattered(t *testing.T) {
-	r := rand.New(rand.NewSource(17))
-	for _, each := range []int{1, 2, 3, 4, 8, 16, 100} {
-		sets := repeat(220, func(i int) string {
-			var list []string
-			for range 32 {
-				list = append(list, fmt.Sprintf("%c[%d]", 'A'+rune(r.Intn(20)), r.Intn(32)))
-			}
-			set := fmt.Sprintf("{%s} <= %c;", strings.Join(list, ","), 'v'+rune(r.Intn(2)))
-			if i%each == 0 {
-				set = fmt.Sprintf("if (c%d) begin ", r.Intn(32)) + set
-			}
-			if i%each == each-1 || i == 219 {
-				set += "end "
-			}
-			return set
-		})
-		mustFit(t, fmt.Sprint(each), "module t (input [31:0] c, input [31:0] v, output [31:0] o); reg [31:0] w; always @clk w <= w + v;"+
-			repeat(32, func(i int) string { return fmt.Sprintf("wire c%d = c[%d];", i, i) })+
-			repeat(20, func(i int) string { return fmt.Sprintf("reg [31:0] %c;", 'A'+rune(i)) })+
-			"assign o = 0"+repeat(20, func(i int) string { return fmt.Sprintf("^%c", 'A'+rune(i)) })+
-			"; always @clk begin "+sets+"end endmodule "+uses(2950/(220+220/each+160)))
-	}
-	// Outputs of which each bit comes of another word.
-	mustFit(t, "outputs", "module m (input [7:0] a, input [31:0] v"+
-		repeat(1440, func(i int) string { return fmt.Sprintf(", output [31:0] o%d", i) })+");"+
-		repeat(6, func(i int) string { return fmt.Sprintf("reg [31:0] k%d [0:255]; always @clk k%d[a] <= v;", i, i) })+
-		repeat(45, func(g int) string {
-			return fmt.Sprintf("for (i = 0; i < 32; i = i + 1) begin : g%d assign {%s} = k%d[i + %d]; end ", g, list32("o", 32*g, "[i]"), g/8, g%8*32)
-		})+"endmodule")
-}
-
 // TestIndices: bits and words by indices.
 func TestIndices(t *testing.T) {
 	mustFit(t, "bits", "module m (input [31:0] c, input [4:0] i, input [4:0] j, output [31:0] q); reg [31:0] x; assign q = x; always @clk begin for (k = 0; k < 220; k = k + 1) begin if (c[3]) x[i] <= c[5]; if (c[k & 31]) x[j + k] <= c[k & 31]; end end endmodule")

@@ -9,6 +9,7 @@ import (
 // lowering makes a netlist of a design in which race.Check finds nothing.
 type lowering struct {
 	*book
+	isFrugal bool // it must have few nodes, whatever becomes of them
 	design   *api.Design
 	sets     []map[int]uint64 // of each process, of each net the bits that it may set
 	setters  [][]int          // of each net, who may set bits of it
@@ -25,8 +26,9 @@ type register struct {
 	net, lo, width int
 }
 
-func lower(d *api.Design) api.Netlist {
-	l := &lowering{book: newBook(), design: d, begun: make([]bool, len(d.Procs))}
+// lowered makes a netlist of what is needed.
+func lowered(d *api.Design, isFrugal bool) api.Netlist {
+	l := &lowering{book: newBook(), isFrugal: isFrugal, design: d, begun: make([]bool, len(d.Procs))}
 	l.findSetters()
 	for i := range d.Nets {
 		l.memories = append(l.memories, len(l.netlist.Mems))
@@ -51,7 +53,7 @@ func lower(d *api.Design) api.Netlist {
 	}
 	l.setRegisters()
 	l.netlist.Nodes = l.book.nodes
-	return l.netlist
+	return needed(&l.netlist)
 }
 
 // findSetters looks at the targets of all processes.
@@ -138,6 +140,7 @@ func (l *lowering) process(p int) {
 	l.begun[p] = true
 	r := newRoutine(l, p)
 	r.acts(l.design.Procs[p].Acts)
+	r.settleAll()
 	into := l.nets
 	if r.clocked {
 		into = l.next

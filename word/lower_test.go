@@ -34,15 +34,19 @@ func shows(t *testing.T, name string, d api.Design, trace [][]uint64) api.Netlis
 			t.Fatalf("%s: output %d has the width %d", name, i, n.Nodes[n.Outputs[i]].Width)
 		}
 	}
-	got := Run(n, trace)
+	frugal := lowered(&d, true)
+	if !Valid(frugal) {
+		t.Fatalf("%s: frugally, it is not valid", name)
+	}
+	got, other := Run(n, trace), Run(frugal, trace)
 	for _, order := range [][]int{nil, {1, 0, 2}, {-1}} {
 		want, err := sim.Run(d, trace, order)
 		if err != nil {
 			t.Fatalf("%s: %v", name, err)
 		}
 		for i := range want {
-			if !reflect.DeepEqual(got[i], want[i]) {
-				t.Fatalf("%s: cycle %d: %v, want %v", name, i, got[i], want[i])
+			if !reflect.DeepEqual(got[i], want[i]) || !reflect.DeepEqual(other[i], want[i]) {
+				t.Fatalf("%s: cycle %d: %v, frugally %v, want %v", name, i, got[i], other[i], want[i])
 			}
 		}
 	}
@@ -277,12 +281,16 @@ func TestShared(t *testing.T) {
 		if err != nil {
 			t.Fatal(err)
 		}
+		frugal := lowered(&d, true)
 		s := sharer{}
 		for p := range d.Procs {
 			d.Procs[p].Acts = s.acts(d.Procs[p].Acts)
 		}
 		if got, err := Lower(d); err != nil || !reflect.DeepEqual(got, want) {
 			t.Fatalf("%v: %+v, want %+v", err, got, want)
+		}
+		if got := lowered(&d, true); !reflect.DeepEqual(got, frugal) {
+			t.Fatalf("%+v, want %+v", got, frugal)
 		}
 	}
 	// What stands in a shared list is read anew when it has been set.

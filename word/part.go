@@ -77,18 +77,6 @@ func filled(all, from []part) []part {
 	return list
 }
 
-// missing tells which bits of a list have no node.
-func missing(all []part) uint64 {
-	bits, at := uint64(0), 0
-	for _, p := range all {
-		if p.node == nothing {
-			bits |= mask(p.width) << at
-		}
-		at += p.width
-	}
-	return bits
-}
-
 // parts tells what a node is made of: no part of it is made of others.
 func (b *book) parts(at int) []part {
 	return b.resolve(nil, part{at, 0, b.width(at)})
@@ -156,13 +144,4 @@ func (b *book) single(p part) int {
 		return p.node
 	}
 	return b.node(api.XSlice, p.width, uint64(p.lo), p.node)
-}
-
-// isFresh asks whether a part would need a new node.
-func (b *book) isFresh(p part) bool {
-	if p.node == nothing || b.isNumber(p.node) || p.width == b.width(p.node) {
-		return false
-	}
-	_, there := b.known[entry{api.XSlice, p.width, uint64(p.lo), b.list([]int{p.node})}]
-	return !there
 }

@@ -41,6 +41,7 @@ func TestRandom(t *testing.T) {
 			t.Fatalf("%v: %+v\n%s", err, n, m.text.String())
 		}
 		shown++
+		frugal := lowered(&d, true)
 		for range 2 {
 			trace, order := m.trace(), m.order()
 			want, err := sim.Run(d, trace, order)
@@ -49,6 +50,9 @@ func TestRandom(t *testing.T) {
 			}
 			if got := Run(n, trace); !reflect.DeepEqual(got, want) {
 				t.Fatalf("%v, want %v: trace %v\n%s", got, want, trace, m.text.String())
+			}
+			if got := Run(frugal, trace); !reflect.DeepEqual(got, want) {
+				t.Fatalf("frugally %v, want %v: trace %v\n%s", got, want, trace, m.text.String())
 			}
 		}
 	}

@@ -7,9 +7,8 @@ type routine struct {
 	*lowering
 	which   int // the number of the process
 	clocked bool
-	path    int             // a node: whether the acts that are gone through run
-	values  map[int][]part  // what has been set: of each net at once, and, behind all nets, of each net later
-	changes map[int]*change // in the branch that is gone through
+	values  map[int][]part // what has been set: of each net at once, and, behind all nets, of each net later
+	branch
 	memo
 }
 
@@ -18,9 +17,8 @@ func newRoutine(l *lowering, which int) *routine {
 		lowering: l,
 		which:    which,
 		clocked:  l.design.Procs[which].Clocked,
-		path:     l.number(1, 1),
 		values:   make(map[int][]part),
-		changes:  make(map[int]*change),
+		branch:   newBranch(l.number(1, 1)),
 		memo:     newMemo(),
 	}
 }
@@ -55,7 +53,7 @@ func (r *routine) set(a *api.Act) {
 		}
 		switch {
 		case !to.Dyn:
-			r.put(id, to.Lo, bits, true)
+			r.put(id, to.Lo, bits)
 		case r.design.Nets[to.Net].Words > 0:
 			w := api.Write{Mem: r.memories[to.Net], When: r.path, Addr: indices[i], Data: r.join(bits)}
 			r.netlist.Writes = append(r.netlist.Writes, w)
@@ -67,37 +65,42 @@ func (r *routine) set(a *api.Act) {
 
 // putBit sets the bit that an index tells. If there is none such, there is no one in the word that stands for it.
 func (r *routine) putBit(id, index, bit int) {
-	old := r.join(r.held(id))
-	width := r.width(old)
+	width := r.widthOfNet(id)
+	old := r.join(r.held(id, r.now(id, 0, width), 0))
 	place := r.operation(api.XShl, width, r.number(width, 1), index)
 	on := r.operation(api.XOr, width, old, place)
 	off := r.operation(api.XAnd, width, old, r.operation(api.XNot, width, place))
-	r.put(id, 0, r.parts(r.operation(api.XIf, width, bit, on, off)), true)
+	r.put(id, 0, r.parts(r.operation(api.XIf, width, bit, on, off)))
 }
 
-// valueOf tells what of a net has been set.
+func (r *routine) widthOfNet(id int) int {
+	return r.design.Nets[id%len(r.nets)].Width
+}
+
+// valueOf tells what of a net has been set, but for what waits to be.
 func (r *routine) valueOf(id int) []part {
 	if bits, there := r.values[id]; there {
 		return bits
 	}
-	return []part{{nothing, 0, r.design.Nets[id%len(r.nets)].Width}}
+	return []part{{nothing, 0, r.widthOfNet(id)}}
 }
 
-// held tells what a net is worth, or will be, as far as it can be told without asking other processes. Beside the clock, bits that the process sets are worth nothing ahead of that: nobody reads them there.
-func (r *routine) held(id int) []part {
+// held fills bits of a net up where they have not been set. Beside the clock, bits that the process sets are worth nothing ahead of that: nobody reads them there.
+func (r *routine) held(id int, bits []part, lo int) []part {
 	if !r.clocked {
-		return r.valueOf(id)
+		return bits
 	}
-	return filled(r.valueOf(id), r.nets[id%len(r.nets)])
+	return filled(bits, cut(r.nets[id%len(r.nets)], lo, widthOf(bits)))
 }
 
 // read tells what some bits of a net are worth at the place that is gone through.
 func (r *routine) read(net, lo, width int) []part {
-	if r.sets[r.which][net] != 0 {
-		r.note(net)
+	if r.sets[r.which][net] == 0 {
+		return r.atRest(net, lo, width)
 	}
+	r.note(net)
 	var all []part
-	for _, p := range cut(r.valueOf(net), lo, width) {
+	for _, p := range r.now(net, lo, width) {
 		if p.node == nothing {
 			all = pushAll(all, r.atRest(net, lo, p.width))
 		} else {
