@@ -42,6 +42,7 @@ func TestRandom(t *testing.T) {
 		}
 		shown++
 		frugal := lowered(&d, true)
+		other := doubled(&n)
 		for range 2 {
 			trace, order := m.trace(), m.order()
 			want, err := sim.Run(d, trace, order)
@@ -53,6 +54,9 @@ func TestRandom(t *testing.T) {
 			}
 			if got := Run(frugal, trace); !reflect.DeepEqual(got, want) {
 				t.Fatalf("frugally %v, want %v: trace %v\n%s", got, want, trace, m.text.String())
+			}
+			if got := Run(other, trace); !reflect.DeepEqual(got, want) {
+				t.Fatalf("doubled %v, want %v: trace %v\n%s", got, want, trace, m.text.String())
 			}
 		}
 	}
