@@ -14,7 +14,7 @@ import (
 const manySteps = 8
 
 // stepCost is how many nodes a step of a row of bits needs, if their conditions are not the same.
-const stepCost = 6
+const stepCost = 5
 
 // slot is a bit of a net, and steps that wait for it, from the first one on.
 type slot struct {
@@ -137,11 +137,20 @@ func (r *routine) wholeRow(row []slot) int {
 			node = r.operation(api.XIf, width, paths[0].node, value, node)
 			continue
 		}
-		taken := r.join(paths)
-		kept := r.operation(api.XAnd, width, node, r.operation(api.XNot, width, taken))
-		node = r.operation(api.XOr, width, kept, r.operation(api.XAnd, width, value, taken))
+		node = r.changed(node, value, r.join(paths))
 	}
 	return node
+}
+
+// changed is a word that becomes another one where a third one has ones.
+func (r *routine) changed(node, value, taken int) int {
+	width := r.width(node)
+	if r.isNumber(value) {
+		kept := r.operation(api.XAnd, width, node, r.operation(api.XNot, width, taken))
+		return r.operation(api.XOr, width, kept, r.operation(api.XAnd, width, value, taken))
+	}
+	unlike := r.operation(api.XXor, width, node, value)
+	return r.operation(api.XXor, width, node, r.operation(api.XAnd, width, unlike, taken))
 }
 
 // outcome is what bits become, if a path is taken.
