@@ -21,6 +21,9 @@ type mover struct {
 }
 
 func (m *mover) name(i int) string {
+	if i >= 52 {
+		return m.name(i/52) + m.name(i%52)
+	}
 	return string("abcdefghijklmnopqrstuvwxyzABCDEFGHIJKLMNOPQRSTUVWXYZ"[i])
 }
 
@@ -110,6 +113,9 @@ func TestMoved(t *testing.T) {
 		{regs: 50, uses: 35, words: 40, conditions: 1},
 		{regs: 50, uses: 34, words: 20, nots: 20, conditions: 4},
 		{regs: 50, uses: 34, words: 10, conditions: 10},
+		{regs: 121, uses: 15, words: 40, conditions: 3},
+		{regs: 103, uses: 17, words: 45, conditions: 4},
+		{regs: 120, uses: 15, words: 25, nots: 20, conditions: 3},
 	} {
 		m.Rand, m.width = rand.New(rand.NewSource(int64(i))), 32
 		mustFit(t, fmt.Sprint(i), m.text())
@@ -126,8 +132,11 @@ func TestDoubled(t *testing.T) {
 		d := designOf(t, text)
 		trace := traceOf(r, &d, 12)
 		want := Run(shows(t, text, d, trace), trace)
-		for _, isFrugal := range []bool{false, true} {
-			plain := lowered(&d, isFrugal)
+		other := regrouped(&d, false)
+		for k, plain := range []api.Netlist{lowered(&d, false), lowered(&d, true), lowered(&other, false), lowered(&other, true)} {
+			if got := Run(plain, trace); !Valid(plain) || !reflect.DeepEqual(got, want) {
+				t.Fatalf("%d, %d: %v, want %v: %s", i, k, got, want, text)
+			}
 			n := doubled(&plain)
 			if !Valid(n) {
 				t.Fatalf("%d: not valid: %s", i, text)
@@ -206,5 +215,39 @@ func TestDoubledBitwise(t *testing.T) {
 	}
 	if more < 1000 {
 		t.Errorf("only %d netlists have doubles", more)
+	}
+}
+
+// TestRegrouped: bits that stand elsewhere are read there, whatever else happens to their nets.
+func TestRegrouped(t *testing.T) {
+	r := rand.New(rand.NewSource(23))
+	for _, c := range []struct {
+		text string
+		more int // so many new nets
+	}{
+		{"reg [7:0] y = 9; always @clk y <= a; assign q = y + 1;", 1},
+		{"reg [7:0] y = 9; always @clk y <= a; assign q = y[b];", 0},
+		{"reg [7:0] y = 9; always @clk y[b] <= a; assign q = y;", 0},
+		{"reg [7:0] y = 9; always @clk y[6:0] <= a; always @* y[7] = ~y[0]; assign q = y;", 0},
+		{"reg [7:0] y = 9; always @clk begin y[6:0] <= a; if (b[0]) y[6] <= b[1]; end assign q = y;", 1},
+		{"reg [7:0] y = 9; reg [7:0] z = 77; always @clk if (b[0]) {y[0],z[3:0],y[7:4],z[7:6]} <= a * b; assign q = {y[3:0],z[5:2]};", 1},
+		{"reg [7:0] y = 9; reg [7:0] z; reg [7:0] k [0:3]; always @clk {y[0],k[b],z[b],y[7:2]} <= {a,b} * b; assign q = y ^ z ^ k[a];", 1},
+		{"reg [7:0] y; reg [7:0] z = 3; always @clk begin z <= {y[3:0],y[7:4]}; y = a + b; end assign q = z;", 1},
+		{"reg [7:0] y; reg [7:0] z = 3; reg [7:0] x; always @clk if (a < b) begin y <= z; z <= {y,y} >> 3; end else x <= y; assign q = x;", 3},
+	} {
+		text := "module m (input [7:0] a, input [7:0] b, output [7:0] q); " + c.text + " endmodule"
+		d := designOf(t, text)
+		trace := traceOf(r, &d, 40)
+		want := Run(shows(t, text, d, trace), trace)
+		other := regrouped(&d, true)
+		if more := len(other.Nets) - len(d.Nets); more != c.more {
+			t.Errorf("%s: %d new nets, want %d", text, more, c.more)
+		}
+		for _, isFrugal := range []bool{false, true} {
+			n := lowered(&other, isFrugal)
+			if got := Run(n, trace); !Valid(n) || !reflect.DeepEqual(got, want) {
+				t.Errorf("%s: %v, want %v", text, got, want)
+			}
+		}
 	}
 }

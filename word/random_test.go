@@ -30,7 +30,7 @@ func (m *maker) design(t *testing.T) (api.Design, bool) {
 // TestRandom: what a text means, its netlist shows.
 func TestRandom(t *testing.T) {
 	m := &maker{Rand: rand.New(rand.NewSource(7))}
-	shown := 0
+	shown, regroupings := 0, 0
 	for range 2500 {
 		d, ok := m.design(t)
 		if !ok {
@@ -43,6 +43,11 @@ func TestRandom(t *testing.T) {
 		shown++
 		frugal := lowered(&d, true)
 		other := doubled(&n)
+		anew := regrouped(&d, true)
+		grouped := lowered(&anew, true)
+		if len(anew.Nets) > len(d.Nets) {
+			regroupings++
+		}
 		for range 2 {
 			trace, order := m.trace(), m.order()
 			want, err := sim.Run(d, trace, order)
@@ -58,9 +63,12 @@ func TestRandom(t *testing.T) {
 			if got := Run(other, trace); !reflect.DeepEqual(got, want) {
 				t.Fatalf("doubled %v, want %v: trace %v\n%s", got, want, trace, m.text.String())
 			}
+			if got := Run(grouped, trace); !reflect.DeepEqual(got, want) {
+				t.Fatalf("regrouped %v, want %v: trace %v\n%s", got, want, trace, m.text.String())
+			}
 		}
 	}
-	if shown < 2000 {
-		t.Errorf("only %d texts", shown)
+	if shown < 2000 || regroupings < 200 {
+		t.Errorf("only %d texts, %d regrouped", shown, regroupings)
 	}
 }
