@@ -1,0 +1,121 @@
+package sat
+
+import (
+	"math/rand"
+	"slices"
+	"testing"
+
+	"gatewright/api"
+	"gatewright/refute"
+)
+
+func TestReluctant(t *testing.T) {
+	var got []int
+	for i := range 15 {
+		got = append(got, reluctant(i+1))
+	}
+	if !slices.Equal(got, []int{1, 1, 2, 1, 1, 2, 4, 1, 1, 2, 1, 1, 2, 4, 8}) {
+		t.Error(got)
+	}
+}
+
+// TestOrder: the most active variable is taken, the lowest one of those that are equally active.
+func TestOrder(t *testing.T) {
+	r := rand.New(rand.NewSource(7))
+	o := newOrder(40)
+	isIn := make([]bool, 40)
+	for v := range isIn {
+		isIn[v] = true
+	}
+	count := 40
+	for range 20000 {
+		switch v := r.Intn(40); r.Intn(4) {
+		case 0:
+			o.meet(v)
+		case 1:
+			o.age()
+		case 2:
+			if o.insert(v); !isIn[v] {
+				isIn[v] = true
+				count++
+			}
+		default:
+			if count == 0 {
+				continue
+			}
+			top := o.take()
+			for w := range isIn {
+				if isIn[w] && o.isAhead(int32(w), int32(top)) {
+					t.Fatalf("%d is taken, %d stands ahead of it", top, w)
+				}
+			}
+			isIn[top] = false
+			count--
+		}
+		if len(o.heap) != count {
+			t.Fatal(len(o.heap), count)
+		}
+	}
+	if o.raise > 1e101 {
+		t.Error("nothing was made smaller")
+	}
+}
+
+// TestHasty: where clauses are dropped all the time, and calm and hasty times change at once, the answers hold as well.
+func TestHasty(t *testing.T) {
+	r := rand.New(rand.NewSource(8))
+	drops := 0
+	for i := range 300 {
+		f := exactly(r, 60, 240+r.Intn(60), 3)
+		if i%3 == 0 {
+			f = pigeons(6)
+			r.Shuffle(len(f.Clauses), func(i, j int) { f.Clauses[i], f.Clauses[j] = f.Clauses[j], f.Clauses[i] })
+		}
+		s := newSolver(f.Vars, len(f.Clauses))
+		s.pace.drops = -firstDrop / laterDrops
+		s.pace.dropAt = r.Intn(20)
+		s.pace.turnAt = r.Intn(100)
+		s.pace.turn = -900
+		if s.takeAll(f.Clauses) && s.search() {
+			if !isModel(f, s.model()) {
+				t.Fatal("no model")
+			}
+		} else if !refute.Check(f, s.book.needed()) {
+			t.Fatal("no refutation")
+		}
+		drops += s.pace.drops + firstDrop/laterDrops
+	}
+	if drops < 300 {
+		t.Errorf("clauses were dropped %d times", drops)
+	}
+}
+
+// TestNeeded: what the empty clause does not hang on is not told.
+func TestNeeded(t *testing.T) {
+	f := pigeons(5)
+	own := f.Vars
+	r := rand.New(rand.NewSource(9))
+	for _, c := range exactly(r, 40, 140, 3).Clauses {
+		for i := range c {
+			if c[i] < 0 {
+				c[i] -= own
+			} else {
+				c[i] += own
+			}
+		}
+		f.Clauses = append(f.Clauses, c)
+	}
+	f.Vars += 40
+	a := Solve(f)
+	if a.Sat || !refute.Check(f, a.Proof) {
+		t.Fatal("no refutation")
+	}
+	for _, c := range a.Proof {
+		if slices.ContainsFunc(c, func(n int) bool { return n > own || n < -own }) {
+			t.Errorf("%v is not needed", c)
+		}
+	}
+	if !Solve(api.Formula{Vars: f.Vars, Clauses: f.Clauses[len(pigeons(5).Clauses):]}).Sat {
+		t.Error("the other part has no model either")
+	}
+}
