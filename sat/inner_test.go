@@ -5,7 +5,6 @@ import (
 	"slices"
 	"testing"
 
-	"gatewright/api"
 	"gatewright/refute"
 )
 
@@ -90,32 +89,16 @@ func TestHasty(t *testing.T) {
 	}
 }
 
-// TestNeeded: what the empty clause does not hang on is not told.
+// TestNeeded: what the empty clause does not hang on is not told, nor what is silent.
 func TestNeeded(t *testing.T) {
-	f := pigeons(5)
-	own := f.Vars
-	r := rand.New(rand.NewSource(9))
-	for _, c := range exactly(r, 40, 140, 3).Clauses {
-		for i := range c {
-			if c[i] < 0 {
-				c[i] -= own
-			} else {
-				c[i] += own
-			}
-		}
-		f.Clauses = append(f.Clauses, c)
-	}
-	f.Vars += 40
-	a := Solve(f)
-	if a.Sat || !refute.Check(f, a.Proof) {
-		t.Fatal("no refutation")
-	}
-	for _, c := range a.Proof {
-		if slices.ContainsFunc(c, func(n int) bool { return n > own || n < -own }) {
-			t.Errorf("%v is not needed", c)
-		}
-	}
-	if !Solve(api.Formula{Vars: f.Vars, Clauses: f.Clauses[len(pigeons(5).Clauses):]}).Sat {
-		t.Error("the other part has no model either")
+	b := book{given: 2}
+	b.add([]literal{0, 3}, []int32{0, 1})
+	source := b.add([]literal{4, 1}, []int32{1})
+	b.add([]literal{2}, []int32{source, 0})
+	silent := b.addSilent([]int32{source, 1})
+	b.add([]literal{6}, nil)
+	b.add(nil, []int32{silent, 0})
+	if told := b.needed(); !slices.EqualFunc(told, [][]int{{3, -1}, {}}, slices.Equal) {
+		t.Error(told)
 	}
 }

@@ -219,6 +219,16 @@ func TestRandomFormulas(t *testing.T) {
 	}
 }
 
+// TestMixedFormulas: clauses of two literals and of three, so that much becomes known on the way.
+func TestMixedFormulas(t *testing.T) {
+	r := rand.New(rand.NewSource(10))
+	for range 5000 {
+		f := exactly(r, 50, 150, 3)
+		f.Clauses = append(f.Clauses, exactly(r, 50, 30, 2).Clauses...)
+		hold(t, "mixed", f)
+	}
+}
+
 // pigeons have no room: there is one more of them than there are holes.
 func pigeons(holes int) api.Formula {
 	f := api.Formula{Vars: holes * (holes + 1)}
