@@ -2,9 +2,10 @@ package sat
 
 // book keeps what was derived, and of what, so that at last what is needed for the empty clause can be told. The formula's clauses have the first numbers, what is derived has those behind them.
 type book struct {
-	given int // the number of the formula's clauses
-	pool  []int32
-	steps []step
+	given   int // the number of the formula's clauses
+	pool    []int32
+	steps   []step
+	isEnded bool // the empty clause is the last step
 }
 
 // step is something derived: its literals, and behind them the numbers of its sources, are a piece of the pool. A silent one is found by unit propagation anyhow, and not told.
@@ -30,6 +31,12 @@ func (b *book) addSilent(sources []int32) int32 {
 	number := b.add(nil, sources)
 	b.steps[len(b.steps)-1].isSilent = true
 	return number
+}
+
+// end notes the empty clause.
+func (b *book) end(sources []int32) {
+	b.add(nil, sources)
+	b.isEnded = true
 }
 
 // needed tells the clauses on which the last one hangs, and that one.

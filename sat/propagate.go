@@ -46,6 +46,7 @@ func (s *solver) propagate() place {
 // wake looks at the clauses that watch a literal which has become false, and gives one that has no literal left.
 func (s *solver) wake(l literal) place {
 	list := s.watches[l]
+	s.looks += len(list)
 	kept := 0
 	found := nowhere
 watching:

@@ -412,3 +412,45 @@ func opposites(list []int) []int {
 	}
 	return list
 }
+
+// TestWithin: whatever is left off tells nothing; what is not tells what Solve tells.
+func TestWithin(t *testing.T) {
+	r := rand.New(rand.NewSource(31))
+	open, ended := 0, 0
+	for i := range 300 {
+		f := exactly(r, 40, 100+r.Intn(100), 3)
+		if i%10 == 0 {
+			f = pigeons(5)
+		}
+		want, all := Within(f, 1<<40)
+		if !reflect.DeepEqual(want, Solve(f)) {
+			t.Fatal("another answer than Solve's")
+		}
+		for _, most := range []int{-1, 0, 1 + r.Intn(all+1), all - 1, all, all + 1} {
+			a, looks := Within(f, most)
+			switch {
+			case most >= all && !reflect.DeepEqual(a, want):
+				t.Fatalf("%d looks are enough, not %d", all, most)
+			case most >= all:
+				ended++
+			case !reflect.DeepEqual(a, api.Answer{}) && !reflect.DeepEqual(a, want):
+				t.Fatal("another answer")
+			case a.Sat || a.Proof != nil:
+				ended++
+			case looks <= most:
+				t.Fatalf("left off at %d of %d", looks, most)
+			default:
+				open++
+			}
+		}
+	}
+	if open < 300 || ended < 600 {
+		t.Errorf("%d left off, %d not", open, ended)
+	}
+	if a, looks := Within(api.Formula{Vars: -1}, 100); !reflect.DeepEqual(a, api.Answer{}) || looks != 0 {
+		t.Errorf("%v of no formula", a)
+	}
+	if a, _ := Within(api.Formula{Vars: 1, Clauses: [][]int{{1}, {-1}}}, -1); len(a.Proof) != 1 {
+		t.Errorf("%v of a formula that cannot hold at once", a)
+	}
+}

@@ -1,5 +1,7 @@
 package sat
 
+import "math"
+
 // solver looks for a model: it supposes something of one variable after the other, each on a level of its own, and learns a clause wherever that leads to a clause without a true literal.
 type solver struct {
 	store
@@ -16,6 +18,9 @@ type solver struct {
 	noted  int   // how many of the trail have been noted as facts
 	lesson lesson
 	pace   pace
+
+	looks     int // how often clauses have been looked at
+	mostLooks int // when to leave off
 }
 
 func newSolver(vars, clauses int) *solver {
@@ -30,14 +35,19 @@ func newSolver(vars, clauses int) *solver {
 		saved:  make([]bool, vars),
 		lesson: newLesson(vars),
 		pace:   newPace(),
+
+		mostLooks: math.MaxInt,
 	}
 }
 
 // takeAll takes the formula's clauses; false: they cannot all hold.
 func (s *solver) takeAll(clauses [][]int) bool {
+	s.reserve(clauses)
 	isMet := make([]bool, len(s.value))
+	var list []literal
 	for i, c := range clauses {
-		list, isTrue := plain(c, isMet)
+		var isTrue bool
+		list, isTrue = plain(list[:0], c, isMet)
 		if isTrue {
 			continue
 		}
@@ -52,9 +62,8 @@ func (s *solver) takeAll(clauses [][]int) bool {
 	return true
 }
 
-// plain gives each literal of a clause once; or tells that some literal and its opposite stand in it. What is met is left as it was: false.
-func plain(c []int, isMet []bool) (list []literal, isTrue bool) {
-	list = make([]literal, 0, len(c))
+// plain puts each literal of a clause into an empty list once, and tells whether some literal and its opposite stand in it. What is met is left as it was: false.
+func plain(list []literal, c []int, isMet []bool) (all []literal, isTrue bool) {
 	for _, n := range c {
 		l := literalOf(n)
 		isTrue = isTrue || isMet[l.opposite()]
@@ -75,10 +84,10 @@ func (s *solver) takeOne(list []literal, number int32) bool {
 	case len(list) > 1:
 		s.lay(list, number, 0)
 	case len(list) == 0:
-		s.book.add(nil, []int32{number})
+		s.book.end([]int32{number})
 		return false
 	case s.value[list[0]] < 0:
-		s.book.add(nil, []int32{number, s.fact[list[0].variable()]})
+		s.book.end([]int32{number, s.fact[list[0].variable()]})
 		return false
 	case s.value[list[0]] == 0:
 		s.setFact(list[0], number)
@@ -86,9 +95,9 @@ func (s *solver) takeOne(list []literal, number int32) bool {
 	return true
 }
 
-// search goes on until there is a model (true), or the empty clause is in the book (false).
+// search goes on until there is a model (true), the empty clause is in the book, or it has looked at too many clauses (false).
 func (s *solver) search() bool {
-	for {
+	for s.looks <= s.mostLooks {
 		if c := s.propagate(); c != nowhere {
 			if len(s.begins) == 0 {
 				s.refute(c)
@@ -110,6 +119,7 @@ func (s *solver) search() bool {
 			return true
 		}
 	}
+	return false
 }
 
 // suppose begins a level with the most active open variable; false: there is none.
@@ -145,7 +155,7 @@ func (s *solver) refute(c place) {
 	for _, l := range s.literals(c) {
 		sources = append(sources, s.fact[l.variable()])
 	}
-	s.book.add(nil, sources)
+	s.book.end(sources)
 }
 
 // noteFacts notes of what each variable comes that has been set on level 0.

@@ -47,6 +47,24 @@ func newStore(vars int) store {
 	return store{watches: make([][]watch, 2*vars)}
 }
 
+// reserve makes room at one time for those who watch the first literals of clauses.
+func (s *store) reserve(clauses [][]int) {
+	counts := make([]int, len(s.watches))
+	all := 0
+	for _, c := range clauses {
+		if len(c) > 1 {
+			counts[literalOf(c[0])]++
+			counts[literalOf(c[1])]++
+			all += 2
+		}
+	}
+	room := make([]watch, all)
+	for l, count := range counts {
+		s.watches[l] = room[:0:count]
+		room = room[count:]
+	}
+}
+
 // literals of a clause: they may be laid in another order, but that the first two are watched.
 func (s *store) literals(c place) []literal {
 	from := c + headCells
