@@ -11,8 +11,8 @@ import (
 	"gatewright/sat"
 )
 
-// tables tells what each variable of a graph is worth where its inputs and latches are worth what is told: of each one a list of words.
-func tables(g *api.Graph, heads [][]uint64, words int) [][]uint64 {
+// tablesOf tells what each variable of a graph is worth where its inputs and latches are worth what is told: of each one a list of words.
+func tablesOf(g *api.Graph, heads [][]uint64, words int) [][]uint64 {
 	all := append([][]uint64{make([]uint64, words)}, heads...)
 	at := func(literal, k int) uint64 {
 		if literal%2 == 1 {
@@ -79,7 +79,7 @@ func holdShape(t *testing.T, g, h *api.Graph) {
 func holdSame(t *testing.T, g, h *api.Graph, heads [][]uint64, words int) {
 	t.Helper()
 	holdShape(t, g, h)
-	one, other := tables(g, heads, words), tables(h, heads, words)
+	one, other := tablesOf(g, heads, words), tablesOf(h, heads, words)
 	others := ends(h)
 	for i, x := range ends(g) {
 		y := others[i]
@@ -95,7 +95,7 @@ func holdSame(t *testing.T, g, h *api.Graph, heads [][]uint64, words int) {
 func alikeIn(g *api.Graph, heads [][]uint64, words int) [][2]int {
 	var pairs [][2]int
 	met := map[string][]int{}
-	for v, table := range tables(g, heads, words) {
+	for v, table := range tablesOf(g, heads, words) {
 		turn := -(table[0] & 1)
 		var key []byte
 		for _, x := range table {

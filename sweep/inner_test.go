@@ -8,6 +8,7 @@ import (
 	"testing"
 
 	"gatewright/aig"
+	"gatewright/api"
 	"gatewright/sat"
 )
 
@@ -242,8 +243,55 @@ func TestSums(t *testing.T) {
 			t.Errorf("%v: %d, %v", c.x, l, isKnown)
 		}
 	}
-	if x := xor(s.ofLiteral(18), s.ofLiteral(7)); !reflect.DeepEqual(x, sum{[]int{5}, 0}) {
+	if x := s.expanded(sum{[]int{3, 9}, 1}); !reflect.DeepEqual(x, sum{[]int{5}, 0}) {
 		t.Errorf("%v", x)
+	}
+}
+
+// TestCuts: the leaves of each cut tell what the gate is worth, as its table says; and its sum, if there is one.
+func TestCuts(t *testing.T) {
+	r := rand.New(rand.NewSource(17))
+	summed := 0
+	for range 200 {
+		g := aig.Clean(aig.Hash(woven(r, 5, 80)))
+		l, _ := levelled(&g)
+		c := make(cuts)
+		heads, words := everywhere(len(l.heads))
+		all := tablesOf(&api.Graph{Inputs: len(l.heads), Ands: l.ands}, heads, words)
+		at := func(v int) uint64 { return all[v][0] }
+		for i, and := range l.ands {
+			v := l.first + i
+			c.note(v, and)
+			if len(c[v]) == 0 || len(c[v]) > mostCuts {
+				t.Fatalf("%d cuts", len(c[v]))
+			}
+			for _, x := range c[v] {
+				leaves := x.leaves[:x.count]
+				if !slices.IsSorted(leaves) || slices.Contains(leaves, v) {
+					t.Fatalf("%+v of gate %d", x, v)
+				}
+				sum, isSum := x.sum()
+				odd := -uint64(sum.turn)
+				for _, w := range sum.terms {
+					odd ^= at(w)
+				}
+				for k := range 1 << len(heads) {
+					spelled := 0
+					for i, w := range leaves {
+						spelled |= int(at(w)>>k&1) << i
+					}
+					if x.table>>spelled&1 != uint8(at(v)>>k&1) || isSum && (odd^at(v))>>k&1 != 0 {
+						t.Fatalf("%+v of gate %d", x, v)
+					}
+				}
+				if isSum && len(sum.terms) > 1 {
+					summed++
+				}
+			}
+		}
+	}
+	if summed < 200 {
+		t.Errorf("only %d sums", summed)
 	}
 }
 
@@ -270,7 +318,7 @@ func TestWindows(t *testing.T) {
 		g := aig.Clean(aig.Hash(woven(r, 6, 60)))
 		l, there := levelled(&g)
 		heads, words := everywhere(g.Inputs)
-		all := tables(&g, heads, words)
+		all := tablesOf(&g, heads, words)
 		numbers := make([]int, l.variables()) // back to the graph's
 		for v, n := range there {
 			numbers[n] = v

@@ -40,6 +40,13 @@ func (m *maker) norXor(a, b int) int {
 	return m.and(m.and(a^1, n^1)^1, m.and(b^1, n^1)^1) ^ 1
 }
 
+// mirror is an exclusive or of three, by way of a carry.
+func (m *maker) mirror(a, b, c int) int {
+	both, one := m.and(a, b), m.or(a, b)
+	carry := m.or(both, m.and(c, one))
+	return m.or(m.and(both, c), m.and(carry^1, m.or(one, c)))
+}
+
 // choice is a if s is true, else b.
 func (m *maker) choice(s, a, b int) int { return m.or(m.and(s, a), m.and(s^1, b)) }
 

@@ -9,7 +9,7 @@ type sum struct {
 	turn  int
 }
 
-// sums knows which gates are exclusive ors of which variables. Where the same are summed up in another order, refutations are too long.
+// sums knows which gates are exclusive ors of which variables. The solver takes far too long where many are summed up in two orders.
 type sums struct {
 	of    map[int]sum    // by variable; what is not there is a sum of itself
 	known map[string]int // by terms: a literal that is worth their exclusive or
@@ -19,13 +19,17 @@ func newSums() sums {
 	return sums{make(map[int]sum), make(map[string]int)}
 }
 
-// ofLiteral tells a literal as a sum.
-func (s *sums) ofLiteral(l int) sum {
-	whole, there := s.of[l/2]
-	if !there {
-		whole.terms = []int{l / 2}
+// expanded puts sums in the place of terms that are known to be some.
+func (s *sums) expanded(x sum) sum {
+	all := sum{turn: x.turn}
+	for _, v := range x.terms {
+		term, there := s.of[v]
+		if !there {
+			term = sum{terms: []int{v}}
+		}
+		all = xor(all, term)
 	}
-	return sum{whole.terms, whole.turn ^ l%2}
+	return all
 }
 
 // xor is the sum of two.

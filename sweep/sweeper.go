@@ -9,6 +9,7 @@ type sweeper struct {
 	budget
 	same  []int          // by variable: a literal that is worth the same; its own, if it stays
 	gates map[[2]int]int // by their literals: the variables of gates
+	cuts  cuts
 	sums  sums
 }
 
@@ -19,6 +20,7 @@ func newSweeper(l layers, p patterns) *sweeper {
 		budget:  newBudget(len(l.ands)),
 		same:    make([]int, l.variables()),
 		gates:   make(map[[2]int]int),
+		cuts:    make(cuts),
 		sums:    newSums(),
 	}
 	for v := range s.same {
@@ -50,7 +52,7 @@ func (s *sweeper) sweep() {
 // meet renews the literals of a gate, and asks whether they show what it is the same as.
 func (s *sweeper) meet(v int) bool {
 	and := &s.ands[v-s.first]
-	*and = s.reduced(ordered(s.renewed(and[0]), s.renewed(and[1])))
+	*and = ordered(s.renewed(and[0]), s.renewed(and[1]))
 	literal, isKnown := s.simple(*and)
 	if !isKnown {
 		s.gates[*and] = v
@@ -70,23 +72,6 @@ func (s *sweeper) renewed(literal int) int {
 	return literal
 }
 
-// reduced leaves out of an inverted gate what the other literal says: x and not (x and y) is x and not y.
-func (s *sweeper) reduced(and [2]int) [2]int {
-	for i, literal := range and {
-		if literal%2 == 0 || literal/2 < s.first {
-			continue
-		}
-		x, inner := and[1-i], s.ands[literal/2-s.first]
-		switch x {
-		case inner[0]:
-			return s.reduced(ordered(x, inner[1]^1))
-		case inner[1]:
-			return s.reduced(ordered(x, inner[0]^1))
-		}
-	}
-	return and
-}
-
 // simple tells what a gate is the same as, if its literals alone show it.
 func (s *sweeper) simple(and [2]int) (literal int, isKnown bool) {
 	const no, yes = 0, 1
@@ -102,20 +87,23 @@ func (s *sweeper) simple(and [2]int) (literal int, isKnown bool) {
 
 // summed tells what a gate is the same as, if it is an exclusive or of which that is known. If it is one of which it is not, that is noted.
 func (s *sweeper) summed(v int) (literal int, isKnown bool) {
-	p, q := s.ands[v-s.first][0], s.ands[v-s.first][1]
-	if p%2 == 0 || q%2 == 0 || q/2 < s.first {
-		return 0, false
+	s.cuts.note(v, s.ands[v-s.first])
+	var unknown []sum
+	for _, c := range s.cuts[v] {
+		leaves, isSum := c.sum()
+		if !isSum {
+			continue
+		}
+		x := s.sums.expanded(leaves)
+		if literal, isKnown = s.sums.literal(x); isKnown {
+			return literal, true
+		}
+		unknown = append(unknown, x)
 	}
-	both, neither := s.ands[p/2-s.first], s.ands[q/2-s.first]
-	if both[0] != neither[0]^1 || both[1] != neither[1]^1 {
-		return 0, false
+	if len(unknown) > 0 {
+		s.sums.note(v, unknown[0])
 	}
-	x := xor(s.sums.ofLiteral(both[0]), s.sums.ofLiteral(both[1]))
-	literal, isKnown = s.sums.literal(x)
-	if !isKnown {
-		s.sums.note(v, x)
-	}
-	return literal, isKnown
+	return 0, false
 }
 
 // merge makes a variable the same as a literal.
