@@ -1,11 +1,14 @@
 package sat
 
-// book keeps what was derived, and of what, so that at last what is needed for the empty clause can be told. The formula's clauses have the first numbers, what is derived has those behind them.
+// given is the number of each clause of the formula; what is derived has the numbers from 1 on.
+const given int32 = 0
+
+// book keeps what was derived, and of what, so that at last what is needed for the empty clause can be told.
 type book struct {
-	given   int // the number of the formula's clauses
-	pool    []int32
-	steps   []step
-	isEnded bool // the empty clause is the last step
+	pool     []int32
+	steps    []step
+	isEnded  bool // the empty clause is the last step
+	isClosed bool // nobody will ask what was derived: nothing is kept
 }
 
 // step is something derived: its literals, and behind them the numbers of its sources, are a piece of the pool. A silent one is found by unit propagation anyhow, and not told.
@@ -16,6 +19,9 @@ type step struct {
 
 // add notes a clause, and tells its number.
 func (b *book) add(list []literal, sources []int32) int32 {
+	if b.isClosed {
+		return given
+	}
 	from := len(b.pool)
 	for _, l := range list {
 		b.pool = append(b.pool, int32(l))
@@ -23,13 +29,18 @@ func (b *book) add(list []literal, sources []int32) int32 {
 	middle := len(b.pool)
 	b.pool = append(b.pool, sources...)
 	b.steps = append(b.steps, step{from, middle, len(b.pool), false})
-	return int32(b.given + len(b.steps) - 1)
+	return b.last()
 }
+
+// last is the number of what was derived last.
+func (b *book) last() int32 { return int32(len(b.steps)) }
 
 // addSilent notes what is known of one variable, and tells its number.
 func (b *book) addSilent(sources []int32) int32 {
 	number := b.add(nil, sources)
-	b.steps[len(b.steps)-1].isSilent = true
+	if number != given {
+		b.steps[number-1].isSilent = true
+	}
 	return number
 }
 
@@ -39,20 +50,20 @@ func (b *book) end(sources []int32) {
 	b.isEnded = true
 }
 
-// needed tells the clauses on which the last one hangs, and that one.
-func (b *book) needed() [][]int {
-	isNeeded := make([]bool, len(b.steps))
-	isNeeded[len(b.steps)-1] = true
+// needed tells the clauses on which some hang, told by their numbers, and these.
+func (b *book) needed(numbers ...int32) [][]int {
+	isNeeded := make([]bool, 1+len(b.steps))
+	for _, n := range numbers {
+		isNeeded[n] = true
+	}
 	count := 0
-	for i := len(b.steps) - 1; i >= 0; i-- {
-		if !isNeeded[i] {
+	for n := b.last(); n > given; n-- {
+		if !isNeeded[n] {
 			continue
 		}
-		s := b.steps[i]
-		for _, n := range b.pool[s.sources:s.to] {
-			if int(n) >= b.given {
-				isNeeded[int(n)-b.given] = true
-			}
+		s := b.steps[n-1]
+		for _, source := range b.pool[s.sources:s.to] {
+			isNeeded[source] = true
 		}
 		if !s.isSilent {
 			count++
@@ -60,7 +71,7 @@ func (b *book) needed() [][]int {
 	}
 	told := make([][]int, 0, count)
 	for i, s := range b.steps {
-		if isNeeded[i] && !s.isSilent {
+		if isNeeded[i+1] && !s.isSilent {
 			told = append(told, numbersOf(b.pool[s.from:s.sources]))
 		}
 	}

@@ -70,16 +70,17 @@ func TestHasty(t *testing.T) {
 			f = pigeons(6)
 			r.Shuffle(len(f.Clauses), func(i, j int) { f.Clauses[i], f.Clauses[j] = f.Clauses[j], f.Clauses[i] })
 		}
-		s := newSolver(f.Vars, len(f.Clauses))
+		s := newSolver(f.Vars)
 		s.pace.drops = -firstDrop / laterDrops
 		s.pace.dropAt = r.Intn(20)
 		s.pace.turnAt = r.Intn(100)
 		s.pace.turn = -900
-		if s.takeAll(f.Clauses) && s.search() {
+		s.takeAll(f.Clauses)
+		if s.search(nil) == Possible {
 			if !isModel(f, s.model()) {
 				t.Fatal("no model")
 			}
-		} else if !refute.Check(f, s.book.needed()) {
+		} else if !refute.Check(f, s.book.needed(s.book.last())) {
 			t.Fatal("no refutation")
 		}
 		drops += s.pace.drops + firstDrop/laterDrops
@@ -91,14 +92,21 @@ func TestHasty(t *testing.T) {
 
 // TestNeeded: what the empty clause does not hang on is not told, nor what is silent.
 func TestNeeded(t *testing.T) {
-	b := book{given: 2}
-	b.add([]literal{0, 3}, []int32{0, 1})
-	source := b.add([]literal{4, 1}, []int32{1})
-	b.add([]literal{2}, []int32{source, 0})
-	silent := b.addSilent([]int32{source, 1})
+	b := book{}
+	first := b.add([]literal{0, 3}, []int32{given})
+	source := b.add([]literal{4, 1}, []int32{given, given})
+	b.add([]literal{2}, []int32{source, given})
+	silent := b.addSilent([]int32{source, given})
 	b.add([]literal{6}, nil)
-	b.add(nil, []int32{silent, 0})
-	if told := b.needed(); !slices.EqualFunc(told, [][]int{{3, -1}, {}}, slices.Equal) {
+	b.add(nil, []int32{silent, given})
+	if told := b.needed(b.last()); !slices.EqualFunc(told, [][]int{{3, -1}, {}}, slices.Equal) {
 		t.Error(told)
+	}
+	if told := b.needed(first, silent, given); !slices.EqualFunc(told, [][]int{{1, -2}, {3, -1}}, slices.Equal) {
+		t.Error(told)
+	}
+	closed := book{isClosed: true}
+	if closed.add([]literal{0}, nil) != given || closed.addSilent(nil) != given || len(closed.needed(given)) > 0 {
+		t.Errorf("%+v", closed)
 	}
 }

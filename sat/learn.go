@@ -19,8 +19,13 @@ type lesson struct {
 	isLevel []bool    // by level: whether some literal of the clause is of it
 }
 
-func newLesson(vars int) lesson {
-	return lesson{mark: make([]int8, vars), isLevel: make([]bool, vars+1)}
+func (n *lesson) grow(more int) {
+	n.mark = append(n.mark, make([]int8, more)...)
+}
+
+// reserve makes room for so many levels.
+func (n *lesson) reserve(levels int) {
+	n.isLevel = append(n.isLevel, make([]bool, max(0, levels+1-len(n.isLevel)))...)
 }
 
 func (n *lesson) setMark(v int, mark int8) {

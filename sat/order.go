@@ -9,16 +9,20 @@ type order struct {
 }
 
 func newOrder(vars int) order {
-	o := order{
-		activity: make([]float64, vars),
-		raise:    1,
-		heap:     make([]int32, vars),
-		where:    make([]int32, vars),
-	}
-	for v := range vars {
-		o.heap[v], o.where[v] = int32(v), int32(v)
-	}
+	o := order{raise: 1}
+	o.grow(vars)
 	return o
+}
+
+// grow takes in so many variables more.
+func (o *order) grow(more int) {
+	from := len(o.activity)
+	o.activity = append(o.activity, make([]float64, more)...)
+	o.where = append(o.where, make([]int32, more)...)
+	for v := from; v < from+more; v++ {
+		o.where[v] = -1
+		o.insert(v)
+	}
 }
 
 // meet makes a variable more active.

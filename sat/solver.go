@@ -18,96 +18,44 @@ type solver struct {
 	noted  int   // how many of the trail have been noted as facts
 	lesson lesson
 	pace   pace
+	sifter sifter
 
 	looks     int // how often clauses have been looked at
 	mostLooks int // when to leave off
 }
 
-func newSolver(vars, clauses int) *solver {
-	return &solver{
-		store:  newStore(vars),
-		order:  newOrder(vars),
-		book:   book{given: clauses},
-		value:  make([]int8, 2*vars),
-		level:  make([]int32, vars),
-		reason: make([]place, vars),
-		fact:   make([]int32, vars),
-		saved:  make([]bool, vars),
-		lesson: newLesson(vars),
-		pace:   newPace(),
-
-		mostLooks: math.MaxInt,
-	}
+func newSolver(vars int) *solver {
+	s := &solver{order: newOrder(0), pace: newPace(), mostLooks: math.MaxInt}
+	s.grow(vars)
+	return s
 }
 
-// takeAll takes the formula's clauses; false: they cannot all hold.
-func (s *solver) takeAll(clauses [][]int) bool {
-	s.reserve(clauses)
-	isMet := make([]bool, len(s.value))
-	var list []literal
-	for i, c := range clauses {
-		var isTrue bool
-		list, isTrue = plain(list[:0], c, isMet)
-		if isTrue {
-			continue
-		}
-		number := int32(i)
-		if len(list) < len(c) {
-			number = s.book.add(list, []int32{number})
-		}
-		if !s.takeOne(list, number) {
-			return false
-		}
-	}
-	return true
+// grow makes room for variables, so many in all.
+func (s *solver) grow(vars int) {
+	more := max(0, vars-len(s.level))
+	s.watches = append(s.watches, make([][]watch, 2*more)...)
+	s.value = append(s.value, make([]int8, 2*more)...)
+	s.level = append(s.level, make([]int32, more)...)
+	s.reason = append(s.reason, make([]place, more)...)
+	s.fact = append(s.fact, make([]int32, more)...)
+	s.saved = append(s.saved, make([]bool, more)...)
+	s.lesson.grow(more)
+	s.sifter.grow(more)
+	s.order.grow(more)
 }
 
-// plain puts each literal of a clause into an empty list once, and tells whether some literal and its opposite stand in it. What is met is left as it was: false.
-func plain(list []literal, c []int, isMet []bool) (all []literal, isTrue bool) {
-	for _, n := range c {
-		l := literalOf(n)
-		isTrue = isTrue || isMet[l.opposite()]
-		if !isMet[l] {
-			isMet[l] = true
-			list = append(list, l)
-		}
-	}
-	for _, l := range list {
-		isMet[l] = false
-	}
-	return list, isTrue
-}
-
-// takeOne takes a clause on level 0; false: it cannot hold.
-func (s *solver) takeOne(list []literal, number int32) bool {
-	switch {
-	case len(list) > 1:
-		s.lay(list, number, 0)
-	case len(list) == 0:
-		s.book.end([]int32{number})
-		return false
-	case s.value[list[0]] < 0:
-		s.book.end([]int32{number, s.fact[list[0].variable()]})
-		return false
-	case s.value[list[0]] == 0:
-		s.setFact(list[0], number)
-	}
-	return true
-}
-
-// search goes on until there is a model (true), the empty clause is in the book, or it has looked at too many clauses (false).
-func (s *solver) search() bool {
-	for s.looks <= s.mostLooks {
+// search goes on until there is a model, something is refuted (what was supposed, or all), or it has looked at too many clauses.
+func (s *solver) search(supposed []literal) int {
+	s.lesson.reserve(len(s.level) + len(supposed))
+	for s.looks <= s.mostLooks && !s.book.isEnded {
 		if c := s.propagate(); c != nowhere {
-			if len(s.begins) == 0 {
-				s.refute(c)
-				return false
+			if s.settle(c, len(supposed)) {
+				return Refuted
 			}
-			s.learn(c)
 			continue
 		}
 		if s.pace.isToRestart() {
-			s.backTo(0)
+			s.backTo(len(supposed))
 		}
 		if len(s.begins) == 0 {
 			s.noteFacts()
@@ -115,29 +63,59 @@ func (s *solver) search() bool {
 		if s.pace.isToDrop() {
 			s.tidy()
 		}
-		if !s.suppose() {
-			return true
+		l, isThere := s.next(supposed)
+		switch {
+		case !isThere:
+			return Possible
+		case s.value[l] < 0:
+			s.blame(l)
+			return Refuted
 		}
+		s.suppose(l)
 	}
+	if s.book.isEnded {
+		return Refuted
+	}
+	return LeftOpen
+}
+
+// settle draws the lesson of a clause that has become false. It tells whether something is refuted, for nothing but what is asked was supposed, on so many levels at most.
+func (s *solver) settle(c place, levels int) (isRefuted bool) {
+	switch {
+	case len(s.begins) == 0:
+		s.refute(c)
+		return true
+	case len(s.begins) <= levels:
+		s.blameAll(c)
+		return true
+	}
+	s.learn(c)
 	return false
 }
 
-// suppose begins a level with the most active open variable; false: there is none.
-func (s *solver) suppose() bool {
+// next is what to suppose: what is asked first, then the most active open variable.
+func (s *solver) next(supposed []literal) (l literal, isThere bool) {
+	if len(s.begins) < len(supposed) {
+		return supposed[len(s.begins)], true
+	}
 	for len(s.heap) > 0 {
 		v := s.take()
-		l := literal(2 * v)
-		if s.value[l] != 0 {
-			continue
+		if l := literal(2 * v); s.value[l] == 0 {
+			if !s.saved[v] {
+				l = l.opposite()
+			}
+			return l, true
 		}
-		if !s.saved[v] {
-			l = l.opposite()
-		}
-		s.begins = append(s.begins, len(s.trail))
-		s.set(l, nowhere)
-		return true
 	}
-	return false
+	return 0, false
+}
+
+// suppose begins a level with a literal that is not false.
+func (s *solver) suppose(l literal) {
+	s.begins = append(s.begins, len(s.trail))
+	if s.value[l] == 0 {
+		s.set(l, nowhere)
+	}
 }
 
 func (s *solver) model() []bool {

@@ -43,11 +43,7 @@ func (w watch) clause() place {
 	return w.at
 }
 
-func newStore(vars int) store {
-	return store{watches: make([][]watch, 2*vars)}
-}
-
-// reserve makes room at one time for those who watch the first literals of clauses.
+// reserve makes room at one time for those who will watch the first literals of clauses; nobody watches anything yet.
 func (s *store) reserve(clauses [][]int) {
 	counts := make([]int, len(s.watches))
 	all := 0

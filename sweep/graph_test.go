@@ -8,6 +8,7 @@ import (
 
 	"gatewright/aig"
 	"gatewright/api"
+	"gatewright/pattern"
 )
 
 func TestGraphByHand(t *testing.T) {
@@ -104,12 +105,12 @@ func TestSmall(t *testing.T) {
 // TestQuestions: where few or no patterns have been run, or such as tell little, the solver decides.
 func TestQuestions(t *testing.T) {
 	r := rand.New(rand.NewSource(2))
-	dull := func(v, number int) block { return filled(number == v) }
+	dull := func(v, number int) pattern.Block { return pattern.Filled(number == v) }
 	for i := range 2000 {
 		g := smallGraph(r)
 		clean := aig.Clean(aig.Hash(g))
 		l, numbers := levelled(&clean)
-		s := newSweeper(l, []patterns{{}, {blocks: 1, head: someWorth}, {blocks: 3, head: dull}}[i%3])
+		s := newSweeper(l, []patterns{{}, {blocks: 1, head: pattern.Some}, {blocks: 3, head: dull}}[i%3])
 		s.sweep()
 		h := aig.Clean(s.left(&clean, numbers))
 		holdEverywhere(t, &g, &h)
@@ -355,7 +356,7 @@ func TestSpent(t *testing.T) {
 		clean := aig.Clean(aig.Hash(g))
 		for _, work := range []int{0, 20000, allWork} {
 			l, numbers := levelled(&clean)
-			s := newSweeper(l, patterns{blocks: 1, head: someWorth})
+			s := newSweeper(l, patterns{blocks: 1, head: pattern.Some})
 			s.budget = budget{work: work}
 			s.sweep()
 			h := aig.Clean(s.left(&clean, numbers))

@@ -1,13 +1,17 @@
 package sweep
 
-import "slices"
+import (
+	"slices"
+
+	"gatewright/pattern"
+)
 
 // mostLeaders is with how many variables of its class a variable is compared.
 const mostLeaders = 3
 
 // guesses are what patterns tell of the variables of a graph: which may be the same.
 type guesses struct {
-	*classes
+	*pattern.Classes
 	isExact bool          // all patterns have been run: variables of one class are the same
 	stays   []bool        // by variable
 	leaders map[int][]int // by class: the first of its variables that stay
@@ -17,27 +21,27 @@ type guesses struct {
 
 // guess runs patterns, each worker some of them.
 func (l *layers) guess(p patterns) guesses {
-	values := make([]block, l.variables())
-	l.run(values, func(int) block { return block{} })
-	all := newClasses(values)
+	values := make([]pattern.Block, l.variables())
+	l.run(values, func(int) pattern.Block { return pattern.Block{} })
+	all := pattern.NewClasses(values)
 	var shares []int
 	for share := range min(workers, p.blocks) {
 		shares = append(shares, share)
 	}
-	cut := each(shares, func(share int) *classes {
-		c := all.clone()
-		values := make([]block, l.variables())
+	cut := each(shares, func(share int) *pattern.Classes {
+		c := all.Clone()
+		values := make([]pattern.Block, l.variables())
 		for number := share; number < p.blocks; number += len(shares) {
-			l.run(values, func(v int) block { return p.head(v, number) })
-			c.tellApart(values)
+			l.run(values, func(v int) pattern.Block { return p.head(v, number) })
+			c.TellApart(values)
 		}
 		return c
 	})
 	for _, c := range cut {
-		all.join(c)
+		all.Join(c)
 	}
 	return guesses{
-		classes: all,
+		Classes: all,
 		isExact: p.isAll,
 		stays:   make([]bool, l.variables()),
 		leaders: make(map[int][]int),
@@ -53,10 +57,10 @@ func (g *guesses) stay(v int) {
 
 // lead makes a variable a leader, if its class has not enough of them.
 func (g *guesses) lead(v int) {
-	if g.isAlone(v) {
+	if g.IsAlone(v) {
 		return
 	}
-	class := g.class[v]
+	class := g.Of(v)
 	if len(g.leaders[class]) < mostLeaders {
 		g.leaders[class] = append(g.leaders[class], v)
 	}
@@ -64,27 +68,23 @@ func (g *guesses) lead(v int) {
 
 // guessed is the literal that a variable is to be compared with next.
 func (g *guesses) guessed(v int) (literal int, isThere bool) {
-	if g.isAlone(v) {
+	if g.IsAlone(v) {
 		return 0, false
 	}
-	list := g.leaders[g.class[v]]
+	list := g.leaders[g.Of(v)]
 	if g.tried[v] >= len(list) {
 		return 0, false
 	}
-	leader := list[g.tried[v]]
-	if g.isTurned[v] != g.isTurned[leader] {
-		return 2*leader + 1, true
-	}
-	return 2 * leader, true
+	return g.Matching(list[g.tried[v]], v), true
 }
 
 // part runs patterns near to samples, and finds the leaders anew.
 func (g *guesses) part(l *layers, samples []sample) {
-	values := make([]block, l.variables())
+	values := make([]pattern.Block, l.variables())
 	for some := range slices.Chunk(samples, sampleWords) {
 		g.rounds++
 		l.run(values, l.near(some, g.rounds))
-		g.tellApart(values)
+		g.TellApart(values)
 	}
 	clear(g.leaders)
 	for v, stays := range g.stays {

@@ -9,6 +9,7 @@ import (
 
 	"gatewright/aig"
 	"gatewright/api"
+	"gatewright/pattern"
 	"gatewright/sat"
 )
 
@@ -75,7 +76,7 @@ func TestCounting(t *testing.T) {
 		p := l.patternsOf()
 		times := make([]int, 1<<heads)
 		for number := range p.blocks {
-			for k := range 1 << blockBits {
+			for k := range 1 << pattern.BlockBits {
 				spelled := 0
 				for v := 1; v <= heads; v++ {
 					b := p.head(v, number)
@@ -84,7 +85,7 @@ func TestCounting(t *testing.T) {
 				times[spelled]++
 			}
 		}
-		want := p.blocks << blockBits >> heads
+		want := p.blocks << pattern.BlockBits >> heads
 		if !p.isAll || slices.ContainsFunc(times, func(x int) bool { return x != want }) {
 			t.Errorf("%d heads: %v", heads, times)
 		}
@@ -130,69 +131,8 @@ func TestNear(t *testing.T) {
 		}
 	}
 	nothing := l.near([]sample{{}}, 1)
-	if nothing(3) != someWorth(3, someBlocks+1) {
+	if nothing(3) != pattern.Some(3, someBlocks+1) {
 		t.Error("a sample without heads")
-	}
-}
-
-// TestClasses: against classes that are made of all that the variables are worth.
-func TestClasses(t *testing.T) {
-	r := rand.New(rand.NewSource(13))
-	for range 200 {
-		const variables = 60
-		turned := make([]bool, variables)
-		kinds := make([]int, variables) // variables of a kind are worth the same, but that some are turned
-		firstBlock := make([]block, variables)
-		for v := range kinds {
-			kinds[v] = r.Intn(12)
-			turned[v] = r.Intn(2) == 0
-			firstBlock[v] = filled(turned[v])
-		}
-		whole := newClasses(firstBlock)
-		parts := []*classes{whole.clone(), whole.clone()}
-		met := make([][]uint64, variables)
-		for i := range 4 {
-			var worth [12]block
-			for kind := range worth {
-				worth[kind] = filled(r.Intn(2) == 0)
-				worth[kind][r.Intn(blockWords)] ^= uint64(r.Intn(2)) << r.Intn(64)
-			}
-			values := make([]block, variables)
-			for v := range values {
-				values[v] = worth[kinds[v]]
-				met[v] = append(met[v], values[v][:]...)
-				for k := range values[v] {
-					if turned[v] {
-						values[v][k] = ^values[v][k]
-					}
-				}
-			}
-			parts[i%2].tellApart(values)
-			if v := r.Intn(variables); i < 2 && r.Intn(2) == 0 {
-				parts[0].drop(v)
-				parts[1].drop(v)
-				whole.drop(v)
-			}
-		}
-		for _, p := range parts {
-			whole.join(p)
-		}
-		for v := range variables {
-			alone := true
-			for w := range variables {
-				if whole.class[v] == gone || whole.class[w] == gone || v == w {
-					continue
-				}
-				is := slices.Equal(met[v], met[w])
-				if is != (whole.class[v] == whole.class[w]) {
-					t.Fatalf("%d and %d: %v", v, w, whole.class)
-				}
-				alone = alone && !is
-			}
-			if alone != whole.isAlone(v) {
-				t.Fatalf("%d alone: %v", v, whole.class)
-			}
-		}
 	}
 }
 

@@ -1,5 +1,7 @@
 package sweep
 
+import "gatewright/pattern"
+
 // sample is a pattern at which two variables part: what some heads are worth.
 type sample struct {
 	heads []int
@@ -10,14 +12,14 @@ type sample struct {
 const sampleWords = 4
 
 // near gives what heads are worth in a block of patterns, some of them near to samples, of which there are no more than sampleWords: each word of these begins with a sample; behind it stand patterns that are its opposite at some of its heads, few at first, then more. So one sample tells many variables apart.
-func (l *layers) near(samples []sample, number int) func(v int) block {
-	blocks := make([]block, l.first)
+func (l *layers) near(samples []sample, number int) func(v int) pattern.Block {
+	blocks := make([]pattern.Block, l.first)
 	for v := range blocks {
-		blocks[v] = someWorth(v, someBlocks+number)
+		blocks[v] = pattern.Some(v, someBlocks+number)
 	}
 	for k := range sampleWords {
 		s := samples[k%len(samples)]
-		flips := s.flips(uint64(number*sampleWords + k))
+		flips := pattern.Flips(len(s.heads), uint64(number*sampleWords+k))
 		for i, v := range s.heads {
 			blocks[v][k] = flips[i]
 			if s.worth[i] {
@@ -25,17 +27,5 @@ func (l *layers) near(samples []sample, number int) func(v int) block {
 			}
 		}
 	}
-	return func(v int) block { return blocks[v] }
-}
-
-// flips tells for each head of a sample at which patterns of a word it is its opposite: at the first one none is.
-func (s *sample) flips(seed uint64) []uint64 {
-	flips := make([]uint64, len(s.heads))
-	for pattern := 1; pattern < 1<<wordBits && len(flips) > 0; pattern++ {
-		for i := range 1 << (pattern / 16) {
-			chosen := mixed(seed<<16|uint64(pattern<<8|i)) % uint64(len(flips))
-			flips[chosen] ^= 1 << pattern
-		}
-	}
-	return flips
+	return func(v int) pattern.Block { return blocks[v] }
 }

@@ -109,7 +109,7 @@ func (s *sweeper) summed(v int) (literal int, isKnown bool) {
 // merge makes a variable the same as a literal.
 func (s *sweeper) merge(v, literal int) {
 	s.same[v] = literal
-	s.drop(v)
+	s.Drop(v)
 }
 
 // left is what the graph becomes whose layers have been swept.
