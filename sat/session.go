@@ -32,7 +32,7 @@ func (s *Session) Add(vars int, clauses ...[]int) {
 	s.solver.looks += takenWork * len(clauses)
 }
 
-// Ask asks whether the clauses can all hold if the literals that are given do, too. If they cannot, a clause is derived: some of the opposites of these literals. No more than so many clauses are looked at, again and again.
+// Ask asks whether the clauses can all hold if some literals do, too. If they cannot, a clause is derived: some of the opposites of these literals. It is left open if it takes more work than is given; then it may be asked again.
 func (s *Session) Ask(most int, literals ...int) int {
 	supposed := make([]literal, len(literals))
 	for i, n := range literals {
