@@ -11,7 +11,8 @@ const (
 	mostCols = 100
 )
 
-func isShape(s api.Shape) bool {
+// IsShape asks whether there is a fabric of that shape.
+func IsShape(s api.Shape) bool {
 	return isWithin(s.Inputs, 0, mostPins) && isWithin(s.Outputs, 0, mostPins) && isWithin(s.Regs, 0, mostPins) &&
 		isWithin(s.Rows, 1, mostRows) && isWithin(s.Cols, 1, mostCols)
 }
